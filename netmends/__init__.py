@@ -1,0 +1,1 @@
+"""Holes mended: a piece of net whose bars are torn and mended."""
